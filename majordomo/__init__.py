@@ -1,0 +1,1 @@
+"""Majordomo: a cluster orchestrator."""

@@ -1,0 +1,151 @@
+"""The interface of the document: names, arguments, where each one is defined, and the examples."""
+
+import importlib
+import inspect
+import unittest
+
+# For each module: its functions with their parameters, its classes with those of their methods, and its constants.
+FUNCTIONS = {
+    "varint": {"put_number": "(number)", "take_number": "(row, index)"},
+    "checksum": {"checksum": "(row, start=(1, 1))", "check_bytes": "(pair)"},
+    "packing": {"is_value": "(value)", "pack": "(value)", "unpack": "(row)"},
+    "sectors": {"make_sector": "(kind, payload)", "read_sector": "(sector)"},
+    "journal": {"parts_needed": "(record)"},
+    "ballots": {"majority": "(count)", "next_ballot": "(above, index, count)", "owner": "(ballot, count)"},
+    "quorum": {"value_to_propose": "(pairs)"},
+    "objects": {
+        "is_plain_name": "(name)", "is_slot_name": "(name)", "is_text": "(text)", "is_count": "(number)",
+        "is_zone": "(zone)", "slot_name": "(name, number)", "split_slot": "(slot)", "is_key": "(kind, name)",
+        "is_object": "(kind, name, value)", "check_transaction": "(transaction)",
+    },
+}
+CLASSES = {
+    "journal": {"Journal": {
+        "__init__": "(self, sectors, boot)", "records": "(self)", "append": "(self, records)",
+        "rewrite": "(self, records)", "sectors_used": "(self)",
+    }},
+    "acceptor": {"Acceptor": {
+        "__init__": "(self)", "prepare": "(self, ballot, first)", "accept": "(self, ballot, slot, value)",
+        "cut": "(self, base)", "replay": "(self, record)",
+    }},
+    "slots": {"Slots": {
+        "__init__": "(self)", "learn": "(self, slot, value)", "take": "(self)", "is_behind": "(self)",
+        "value_at": "(self, slot)", "cut": "(self, base)", "jump": "(self, base)",
+    }},
+    "proposer": {"Proposer": {
+        "__init__": "(self, index, count)", "saw": "(self, ballot)", "begin": "(self, first)",
+        "hear_promise": "(self, index, ballot, base, rows)", "propose": "(self, value)",
+        "hear_accepted": "(self, index, ballot, slot)", "open_proposals": "(self)", "stop": "(self)",
+    }},
+    "store": {"Store": {
+        "__init__": "(self)", "entry": "(self, kind, name)", "entries": "(self)", "apply": "(self, transaction)",
+        "since": "(self, revision, *, limit=100)", "forget": "(self, revision)", "image": "(self)",
+    }},
+}
+CONSTANTS = {
+    "sectors": {"SECTOR": 64, "PAYLOAD": 58, "BLANK": (0,) * 64},
+    "quorum": {"NOTHING": ("nothing",)},
+    "objects": {"KINDS": ("beat", "drain", "node", "note", "rollout", "service", "task")},
+}
+FIELDS = {
+    "acceptor": {"Acceptor": ((), {"promised": 0, "base": 0})},
+    "slots": {"Slots": ((), {"base": 0, "applied": 0})},
+    "proposer": {"Proposer": ((1, 3), {"ballot": 0, "state": "idle"})},
+    "store": {"Store": ((), {"revision": 0, "oldest": 0})},
+}
+
+
+def module(name):
+    return importlib.import_module("majordomo." + name)
+
+
+class TestNames(unittest.TestCase):
+    def check_defined(self, found, name, signature):
+        self.assertTrue(inspect.isfunction(found))
+        self.assertEqual(found.__module__, "majordomo." + name)
+        self.assertEqual(str(inspect.signature(found)), signature)
+
+    def test_functions(self):
+        for name, functions in FUNCTIONS.items():
+            for function, signature in functions.items():
+                with self.subTest((name, function)):
+                    self.check_defined(vars(module(name))[function], name, signature)
+
+    def test_methods_stand_in_their_classes(self):
+        for name, classes in CLASSES.items():
+            for word, methods in classes.items():
+                found = vars(module(name))[word]
+                self.assertEqual(found.__module__, "majordomo." + name)
+                for method, signature in methods.items():
+                    with self.subTest((word, method)):
+                        self.check_defined(vars(found)[method], name, signature)
+
+    def test_the_static_method(self):
+        found = vars(module("store").Store)["from_image"]
+        self.assertIsInstance(found, staticmethod)
+        self.assertEqual(str(inspect.signature(found.__func__)), "(image)")
+
+    def test_constants(self):
+        for name, constants in CONSTANTS.items():
+            for constant, value in constants.items():
+                self.assertEqual(vars(module(name))[constant], value)
+                self.assertIs(type(vars(module(name))[constant]), type(value))
+
+    def test_fields_are_set_when_an_object_is_created(self):
+        for name, classes in FIELDS.items():
+            for word, (arguments, fields) in classes.items():
+                made = vars(module(name))[word](*arguments)
+                for field, value in fields.items():
+                    self.assertEqual(vars(made)[field], value)
+
+
+class TestExamples(unittest.TestCase):
+    def test_ballots_and_quorum(self):
+        self.assertEqual(module("ballots").next_ballot(4, 1, 3), 7)
+        self.assertEqual(module("quorum").value_to_propose([(4, ("a",)), (7, ("b",)), (0, ("c",))]), ("b",))
+
+    def test_acceptor(self):
+        acceptor = module("acceptor").Acceptor()
+        self.assertEqual(acceptor.accept(4, 0, ("x",)), ("accepted", 4, 0))
+        self.assertEqual(acceptor.prepare(7, 0), ("promise", 7, 0, ((0, 4, ("x",)),)))
+        self.assertEqual(acceptor.accept(4, 1, ("y",)), ("refuse", 7))
+
+    def test_slots(self):
+        slots = module("slots").Slots()
+        self.assertEqual((slots.learn(1, ("b",)), slots.take(), slots.is_behind()), (True, [], True))
+        self.assertEqual((slots.learn(0, ("a",)), slots.take()), (True, [(0, ("a",)), (1, ("b",))]))
+
+    def test_proposer(self):
+        proposer = module("proposer").Proposer(1, 3)
+        self.assertEqual(proposer.begin(0), 1)
+        self.assertEqual(proposer.hear_promise(1, 1, 0, ()), [])
+        self.assertEqual(proposer.hear_promise(2, 1, 0, ((1, 0, ("x",)),)), [(0, ("nothing",)), (1, ("x",))])
+        self.assertEqual(proposer.propose(("y",)), 2)
+
+
+class TestConventions(unittest.TestCase):
+    """Point 0.7: tuples and strings are compared member by member, and keywords are written with their names."""
+
+    def test_keywords(self):
+        self.assertEqual(module("checksum").checksum([], start=(4, 5)), (4, 5))
+        self.assertEqual(module("store").Store().since(0, limit=1), ("changes", 0, (), 0))
+        with self.assertRaises(TypeError):
+            module("store").Store().since(0, 1)
+
+    def test_a_prefix_is_less_than_a_longer_string(self):
+        store = module("store").Store()
+        names = ["b", "ab", "a", "abc", "0", "aa"]
+        store.apply(((), tuple(("drain", name, ("",)) for name in names), ()))
+        self.assertEqual([entry[1] for entry in store.entries()], ["0", "a", "aa", "ab", "abc", "b"])
+
+    def test_an_integer_is_never_a_boolean(self):
+        objects = module("objects")
+        self.assertIs(objects.is_count(True), False)
+        self.assertIs(objects.is_object("beat", "a", (False, 0)), False)
+        self.assertEqual(module("packing").pack(True), [2])
+        self.assertIs(module("packing").unpack([2]), True)
+        self.assertIs(type(module("packing").unpack([3, 1])), int)
+
+
+if __name__ == "__main__":
+    unittest.main()
