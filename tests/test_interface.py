@@ -18,6 +18,16 @@ FUNCTIONS = {
         "is_zone": "(zone)", "slot_name": "(name, number)", "split_slot": "(slot)", "is_key": "(kind, name)",
         "is_object": "(kind, name, value)", "check_transaction": "(transaction)",
     },
+    "replica": {"is_command": "(command)"},
+    "durable": {"compacted": "(records)"},
+    "conditions": {"conditions": "(view, keys)"},
+    "services": {"service_need": "(view, name)"},
+    "wanted": {
+        "is_wanted": "(view, slot)", "is_current": "(view, slot)", "is_available": "(view, slot)",
+        "is_drained": "(view, slot)",
+    },
+    "rollout": {"open_numbers": "(view, name)", "next_open": "(view, name)", "rollout_need": "(view, name)"},
+    "collector": {"owner_present": "(view, value)", "note_need": "(view, name)", "lost_notes": "(view)"},
 }
 CLASSES = {
     "journal": {"Journal": {
@@ -41,17 +51,60 @@ CLASSES = {
         "__init__": "(self)", "entry": "(self, kind, name)", "entries": "(self)", "apply": "(self, transaction)",
         "since": "(self, revision, *, limit=100)", "forget": "(self, revision)", "image": "(self)",
     }},
+    "sessions": {"Sessions": {
+        "__init__": "(self)", "run": "(self, store, command)", "answer": "(self, origin, number)",
+        "last": "(self, origin)", "image": "(self)",
+    }},
+    "replica": {"Replica": {
+        "__init__": "(self, name, replicas, records, boot)", "handle": "(self, event)", "look": "(self)",
+        "dump": "(self)", "value_at": "(self, slot)",
+    }},
+    "durable": {"DurableReplica": {
+        "__init__": "(self, name, replicas, sectors, boot)", "handle": "(self, event)", "look": "(self)",
+        "dump": "(self)",
+    }},
+    "cache": {"Cache": {
+        "__init__": "(self, ring=100)", "take": "(self, letter)", "entries": "(self)", "since": "(self, revision)",
+    }},
+    "front": {"Front": {
+        "__init__": "(self, name, replicas, ring, boot)", "handle": "(self, event)", "asking": "(self)",
+    }},
+    "caller": {"Caller": {
+        "__init__": "(self, origin, fronts, *, patience=4)", "ask": "(self, transaction)", "tick": "(self)",
+        "hear": "(self, letter)",
+    }},
+    "follower": {"Follower": {
+        "__init__": "(self, fronts, *, patience=4)", "tick": "(self)", "hear": "(self, sender, letter)",
+    }},
+    "workqueue": {"WorkQueue": {
+        "__init__": "(self, *, most=8)", "add": "(self, key)", "add_later": "(self, key, ticks)", "tick": "(self)",
+        "take": "(self)", "finish": "(self, key)", "fail": "(self, key)", "waiting": "(self)", "in_work": "(self)",
+        "delayed": "(self)", "failures": "(self, key)",
+    }},
 }
 CONSTANTS = {
     "sectors": {"SECTOR": 64, "PAYLOAD": 58, "BLANK": (0,) * 64},
     "quorum": {"NOTHING": ("nothing",)},
     "objects": {"KINDS": ("beat", "drain", "node", "note", "rollout", "service", "task")},
+    "replica": {"IMAGE_EVERY": 8, "SENT_AT_ONCE": 8},
 }
 FIELDS = {
     "acceptor": {"Acceptor": ((), {"promised": 0, "base": 0})},
     "slots": {"Slots": ((), {"base": 0, "applied": 0})},
     "proposer": {"Proposer": ((1, 3), {"ballot": 0, "state": "idle"})},
     "store": {"Store": ((), {"revision": 0, "oldest": 0})},
+    "replica": {"Replica": (("r1", ("r1",), [], 1), {"name": "r1"})},
+    "durable": {"DurableReplica": (("r1", ("r1",), [], 1), {"name": "r1"})},
+    "cache": {"Cache": ((), {"revision": 0, "oldest": 0, "ready": False, "view": {}})},
+    "caller": {"Caller": (("m1", ("f1",)), {"origin": "m1", "number": 0, "front": "f1", "age": 0})},
+    "follower": {"Follower": ((("f1",),), {"front": "f1"})},
+}
+# The fields that hold objects of other classes.
+PARTS = {
+    "durable": {"DurableReplica": (("r1", ("r1",), [], 1), {"journal": ("journal", "Journal"),
+                                                            "replica": ("replica", "Replica")})},
+    "front": {"Front": (("f1", ["r1"], 9, 1), {"cache": ("cache", "Cache")})},
+    "follower": {"Follower": ((("f1",),), {"cache": ("cache", "Cache")})},
 }
 
 
@@ -80,10 +133,11 @@ class TestNames(unittest.TestCase):
                     with self.subTest((word, method)):
                         self.check_defined(vars(found)[method], name, signature)
 
-    def test_the_static_method(self):
-        found = vars(module("store").Store)["from_image"]
-        self.assertIsInstance(found, staticmethod)
-        self.assertEqual(str(inspect.signature(found.__func__)), "(image)")
+    def test_static_methods_and_properties(self):
+        for found in (vars(module("store").Store)["from_image"], vars(module("sessions").Sessions)["from_image"]):
+            self.assertIsInstance(found, staticmethod)
+            self.assertEqual(str(inspect.signature(found.__func__)), "(image)")
+        self.assertIsInstance(vars(module("caller").Caller)["busy"], property)
 
     def test_constants(self):
         for name, constants in CONSTANTS.items():
@@ -97,6 +151,13 @@ class TestNames(unittest.TestCase):
                 made = vars(module(name))[word](*arguments)
                 for field, value in fields.items():
                     self.assertEqual(vars(made)[field], value)
+
+    def test_fields_that_hold_objects(self):
+        for name, classes in PARTS.items():
+            for word, (arguments, fields) in classes.items():
+                made = vars(module(name))[word](*arguments)
+                for field, (source, kind) in fields.items():
+                    self.assertIs(type(vars(made)[field]), vars(module(source))[kind])
 
 
 class TestExamples(unittest.TestCase):
