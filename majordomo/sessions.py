@@ -18,16 +18,17 @@ class Sessions:
 
     def answer(self, origin, number):
         """Return the answer to a number that was run or passed over, otherwise None."""
-        last = self.last(origin)
-        if number > last:
+        if origin not in self._kept or number > self._kept[origin][0]:
             return None
-        if number < last:
+        if number < self._kept[origin][0]:
             return ("old",)
         return self._kept[origin][1]
 
     def last(self, origin):
         """Return the greatest number that was run for the origin, or 0."""
-        return self._kept.get(origin, (0, None))[0]
+        if origin not in self._kept:
+            return 0
+        return self._kept[origin][0]
 
     def image(self):
         """Return the tuple of all (origin, number, answer), in ascending order of the origins."""

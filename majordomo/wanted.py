@@ -14,9 +14,10 @@ def task_of(view, slot):
 def is_wanted(view, slot):
     """Return True if the view has the task's own service, and this counts the slot in."""
     task = task_of(view, slot)
-    if task is None:
+    parts = split_slot(slot)
+    if task is None or parts is None:
         return False
-    name, number = split_slot(slot)
+    name, number = parts
     if ("service", name) not in view:
         return False
     born, _, service = view[("service", name)]

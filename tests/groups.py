@@ -191,9 +191,12 @@ class Group:
             for _ in range(6):
                 self.run(name, self.hosts[name].settle(None))
 
+    def actors(self):
+        return list(self.names)
+
     def round(self):
-        """Each replica has one tick; then all letters on the way are delivered six times."""
-        for name in self.names:
+        """Each actor has one tick; then all letters on the way are delivered six times."""
+        for name in self.actors():
             self.run(name, ("tick",))
         self.settle_all()
         for _ in range(6):

@@ -48,11 +48,21 @@ def strings_of(tree):
     return [node for node in ast.walk(tree) if isinstance(node, ast.Constant) and isinstance(node.value, str)]
 
 
+def plain_names(tree):
+    """The names of all parameters, and of all variables that are assigned."""
+    names = [node.arg for node in ast.walk(tree) if isinstance(node, ast.arg)]
+    return names + [node.id for node in ast.walk(tree)
+                    if isinstance(node, ast.Name) and not isinstance(node.ctx, ast.Load)]
+
+
+def captured_names(tree):
+    """The names that the patterns of cases bind."""
+    return [node.name for node in ast.walk(tree) if isinstance(node, ast.MatchAs) and node.name]
+
+
 def bound_names(tree):
     """The names of all parameters and variables of functions and modules."""
-    names = [node.arg for node in ast.walk(tree) if isinstance(node, ast.arg)]
-    names += [node.id for node in ast.walk(tree) if isinstance(node, ast.Name) and not isinstance(node.ctx, ast.Load)]
-    return names
+    return plain_names(tree) + captured_names(tree)
 
 
 def defined_names(tree):
@@ -142,6 +152,20 @@ class TestStatements(unittest.TestCase):
                     self.assertNotIsInstance(node.value, (float, complex, bytes), path.name)
                 if isinstance(node, ast.BinOp) and isinstance(node.op, ast.Pow):
                     self.assertTrue(isinstance(node.right, ast.Constant) and 0 <= node.right.value <= 64, path.name)
+
+    def test_patterns(self):
+        allowed = (ast.MatchSequence, ast.MatchValue, ast.MatchAs, ast.MatchSingleton)
+        for path in files():
+            for node in ast.walk(tree_of(path)):
+                if isinstance(node, ast.pattern):
+                    self.assertIsInstance(node, allowed, path.name)
+                if isinstance(node, ast.Match):
+                    catching = [isinstance(case.pattern, ast.MatchAs) for case in node.cases]
+                    self.assertNotIn(True, catching[:-1], path.name)
+                if isinstance(node, ast.FunctionDef):
+                    captured = set(captured_names(node))
+                    # A captured name has no other meaning in its function.
+                    self.assertEqual(captured & set(plain_names(node)), set(), (path.name, node.name))
 
     def test_decorators(self):
         for path in files():

@@ -24,6 +24,13 @@ class TestRunning(unittest.TestCase):
         self.assertIsNone(self.sessions.answer("c1", 1))
         self.assertEqual(self.sessions.image(), ())
 
+    def test_without_a_kept_number_any_number_is_new(self):
+        for number in (0, -1, 10 ** 12 + 1):
+            self.assertIsNone(self.sessions.answer("c1", number))
+            self.assertEqual(Sessions().run(Store(), ("c1", number, put("a"))), ("done", 1))
+        self.run_command("c1", 1, put("a"))
+        self.assertEqual((self.sessions.answer("c1", 0), self.sessions.answer("c2", 0)), (("old",), None))
+
     def test_a_new_number_is_run_and_kept(self):
         self.assertEqual(self.run_command("c1", 1, put("a")), ("done", 1))
         self.assertEqual(self.sessions.last("c1"), 1)

@@ -104,17 +104,6 @@ class Network(Group):
         elif self.letters:
             self.deliver()
 
-    def round(self):
-        for name in self.actors():
-            self.run(name, ("tick",))
-        self.settle_all()
-        for _ in range(6):
-            letters = self.letters
-            self.letters = []
-            for sender, receiver, letter in letters:
-                self.run(receiver, ("letter", sender, letter))
-            self.settle_all()
-
 
 class TestSystem(unittest.TestCase):
     def test_random_runs(self):

@@ -51,6 +51,11 @@ class TestWanted(unittest.TestCase):
         self.check([False] * 4, service(9), drain(), drain(""))
         self.check([False] * 4, service(9), drain(), task(1), slot="web/2")
 
+    def test_names_that_are_no_slot_names(self):
+        for slot in ("web", "web/", "web/10", "/1", ""):
+            self.check([False] * 4, service(9), task(1), slot=slot)
+            self.check([False] * 4, service(9), ("task", slot) + task(1)[2:], slot=slot)
+
     def test_a_task_without_a_service(self):
         self.check([False] * 4, task(1))
         self.check([False, False, False, True], task(1), drain())
