@@ -224,8 +224,10 @@ class Replica:
             # The sender forgot what it accepted below its base, and what was decided there is not known here.
             self._send(sender, ("want", self._slots.applied))
             return
+        was_leading = self._proposer.state == LEADING
         opened = self._proposer.hear_promise(self._replicas.index(sender), ballot, base, rows)
-        if self._proposer.state == LEADING:
+        # Only the promise that makes it lead changes its leader: it may hear of another one later.
+        if self._proposer.state == LEADING and not was_leading:
             self._leader = self.name
         for slot, value in opened:
             self._send_accepts(slot, value)

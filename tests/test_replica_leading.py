@@ -148,6 +148,45 @@ class TestLeaders(unittest.TestCase):
         hear(replica, "r2", "refuse", 7)
         self.assertIsNone(known_leader(replica))
 
+    def test_a_promise_that_comes_when_it_leads_changes_no_leader(self):
+        for count, late in ((3, ("r3",)), (5, ("r4", "r5")), (5, ("r4", "r4", "r2"))):
+            for letter in (("beat", count, 0), ("accept", count, 0, command(9)), ("beat", count, 4)):
+                replica = made("r1", count)
+                tick(replica, 8)
+                stored(replica, 1)
+                for name in NAMES[1:count // 2 + 1]:
+                    hear(replica, name, "promise", count, 0, ())
+                self.assertIs(replica.look()[2], True)
+                hear(replica, "r2", *letter)
+                self.assertIs(replica.look()[2], True)
+                for name in late:
+                    hear(replica, name, "promise", count, 0, ())
+                hear(replica, "r2", "refuse", count + 1)
+                self.assertEqual((replica.look()[2], known_leader(replica)), (False, "r2"), (letter, late))
+
+    def test_a_promise_of_another_ballot_changes_no_leader(self):
+        for ballot in (0, 2, 6):
+            leader, own = leading()
+            hear(leader, "r2", "beat", own, 0)
+            hear(leader, "r3", "promise", ballot, 0, ())
+            hear(leader, "r2", "refuse", own + 1)
+            self.assertEqual((leader.look()[2], known_leader(leader)), (False, "r2"))
+
+    def test_each_time_that_it_is_made_to_lead_counts(self):
+        replica = made("r1", 3)
+        for ballot in (3, 6):
+            tick(replica, 8)
+            stored(replica, ballot // 3)
+            hear(replica, "r2", "promise", ballot, 0, ())
+            hear(replica, "r2", "beat", ballot, 0)
+            hear(replica, "r2", "refuse", ballot + 1)
+            self.assertEqual((replica.look()[2], known_leader(replica)), (False, "r2"))
+        tick(replica, 8)
+        stored(replica, 3)
+        hear(replica, "r2", "promise", 9, 0, ())
+        hear(replica, "r2", "refuse", 10)
+        self.assertIsNone(known_leader(replica))
+
     def test_a_promise_of_a_leader_changes_no_leader(self):
         leader, ballot = leading(5)
         hear(leader, "r2", "refuse", 9)
