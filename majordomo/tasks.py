@@ -25,6 +25,21 @@ def stopped(value):
     return value[:STOP] + (1,) + value[STOP + 1:]
 
 
+def ended(value):
+    """Return the value with the state "ended", and all else as it was."""
+    return value[:STATE] + ("ended",) + value[STATE + 1:]
+
+
+def started(value):
+    """Return the value with the state "running", and all else as it was."""
+    return value[:STATE] + ("running",) + value[STATE + 1:]
+
+
+def bound(value, node, life):
+    """Return the value with the state "bound" on a node in one of its lives, and all else as it was."""
+    return value[:STATE] + ("bound", value[STOP], node, life, value[ZONE])
+
+
 def renewed(value, text, size, zone):
     """Return the value with another text, size and zone, and all else as it was."""
     return (value[SERVICE_BORN], text, size) + value[STATE:ZONE] + (zone,)

@@ -28,6 +28,15 @@ FUNCTIONS = {
     },
     "rollout": {"open_numbers": "(view, name)", "next_open": "(view, name)", "rollout_need": "(view, name)"},
     "collector": {"owner_present": "(view, value)", "note_need": "(view, name)", "lost_notes": "(view)"},
+    "manager": {"work_keys": "(view, kind, name)"},
+    "nodes": {"stranded": "(view, name)"},
+    "fit": {
+        "free_size": "(node_value, assumed)", "is_open": "(node_value)",
+        "fits": "(task_value, node_value, drained, assumed)", "pending_tasks": "(entries)",
+    },
+    "ranking": {"same_service": "(entries, node, service_born)", "choose_node": "(task_value, nodes)"},
+    "scheduler": {"bind_transaction": "(task, task_entry, node, node_entry)"},
+    "lease": {"feed_left": "(feed, asked, now)", "beat_due": "(feed, asked, now)", "safe_wait": "(feed)"},
 }
 CLASSES = {
     "journal": {"Journal": {
@@ -81,6 +90,18 @@ CLASSES = {
         "take": "(self)", "finish": "(self, key)", "fail": "(self, key)", "waiting": "(self)", "in_work": "(self)",
         "delayed": "(self)", "failures": "(self, key)",
     }},
+    "manager": {"Manager": {
+        "__init__": "(self, name, fronts, wait, boot)", "handle": "(self, event)", "look": "(self)",
+    }},
+    "nodes": {"NodeWatch": {
+        "__init__": "(self, wait)", "tick": "(self, view)", "silent": "(self, view, name)", "need": "(self, view, name)",
+    }},
+    "assumed": {"Assumed": {
+        "__init__": "(self)", "add": "(self, task, node, size, service_born)", "done": "(self, task, revision)",
+        "drop": "(self, task)", "settle": "(self, revision)", "has": "(self, task)", "size_on": "(self, node)",
+        "count_on": "(self, node, service_born)", "names": "(self)",
+    }},
+    "scheduler": {"Scheduler": {"__init__": "(self, name, fronts, boot)", "handle": "(self, event)"}},
 }
 CONSTANTS = {
     "sectors": {"SECTOR": 64, "PAYLOAD": 58, "BLANK": (0,) * 64},
@@ -98,6 +119,7 @@ FIELDS = {
     "cache": {"Cache": ((), {"revision": 0, "oldest": 0, "ready": False, "view": {}})},
     "caller": {"Caller": (("m1", ("f1",)), {"origin": "m1", "number": 0, "front": "f1", "age": 0})},
     "follower": {"Follower": ((("f1",),), {"front": "f1"})},
+    "nodes": {"NodeWatch": ((7,), {"wait": 7, "clock": 0})},
 }
 # The fields that hold objects of other classes.
 PARTS = {
@@ -105,6 +127,9 @@ PARTS = {
                                                             "replica": ("replica", "Replica")})},
     "front": {"Front": (("f1", ["r1"], 9, 1), {"cache": ("cache", "Cache")})},
     "follower": {"Follower": ((("f1",),), {"cache": ("cache", "Cache")})},
+    "scheduler": {"Scheduler": (("s1", ("f1",), 1), {
+        "follower": ("follower", "Follower"), "caller": ("caller", "Caller"), "assumed": ("assumed", "Assumed"),
+    })},
 }
 
 

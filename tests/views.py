@@ -28,6 +28,14 @@ def drain(node="n1", revision=50):
     return ("drain", node, 40, revision, ("",))
 
 
+def node(name="n1", size=9, used=2, life=3, lost=0, zone="", revision=70):
+    return ("node", name, 65, revision, (size, used, life, lost, zone))
+
+
+def beat(name="n1", life=3, count=4, revision=80):
+    return ("beat", name, 65, revision, (life, count))
+
+
 def note(name, kind="", owner="", born=0, revision=60, own_born=55):
     return ("note", name, own_born, revision, ("text", kind, owner, born))
 
