@@ -3,6 +3,7 @@
 SPACE = 32
 PERCENT = 37
 TILDE = 126
+DIGITS = "0123456789"
 
 
 def has_plain_characters(text):
@@ -19,3 +20,14 @@ def is_integer_within(number, low, high):
     if isinstance(number, bool) or not isinstance(number, int):
         return False
     return low <= number <= high
+
+
+def number_within(word, low, high):
+    """Return the number from low to high whose decimal form the word is, or None."""
+    # The length is checked first, for a word may be much longer than any number.
+    if not 1 <= len(word) <= len(str(high)) or not all([character in DIGITS for character in word]):
+        return None
+    number = int(word)
+    if str(number) != word or not low <= number <= high:
+        return None
+    return number

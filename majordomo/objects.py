@@ -1,13 +1,12 @@
 """The kinds of objects in the store, the forms of their names and values, and transactions."""
 
 from majordomo.errors import BadTransaction
-from majordomo.forms import has_plain_characters, is_integer_within
+from majordomo.forms import DIGITS, has_plain_characters, is_integer_within
 
 KINDS = ("beat", "drain", "node", "note", "rollout", "service", "task")
 STATES = ("new", "bound", "running", "ended")
 
 NAME_CHARACTERS = "abcdefghijklmnopqrstuvwxyz0123456789"
-DIGITS = "0123456789"
 MOST_NAME = 12
 MOST_TEXT = 40
 MOST_COUNT = 10 ** 12

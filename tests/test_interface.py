@@ -37,6 +37,19 @@ FUNCTIONS = {
     "ranking": {"same_service": "(entries, node, service_born)", "choose_node": "(task_value, nodes)"},
     "scheduler": {"bind_transaction": "(task, task_entry, node, node_entry)"},
     "lease": {"feed_left": "(feed, asked, now)", "beat_due": "(feed, asked, now)", "safe_wait": "(feed)"},
+    "runs": {
+        "tasks_of": "(entries, node, life)", "to_run": "(tasks, runs, confirmed)", "next_start": "(tasks, held)",
+        "next_end": "(tasks, held)",
+    },
+    "worker": {
+        "enroll_transaction": "(name, size, zone, node_entry, beat_entry)",
+        "beat_transaction": "(name, beat_rev, life, count)", "start_transaction": "(slot, task_entry)",
+        "end_transaction": "(slot, task_entry, node, node_entry)",
+    },
+    "words": {"split_words": "(line)", "write_word": "(word)"},
+    "commands": {"parse_command": "(line)", "format_command": "(command)"},
+    "desk": {"command_transaction": "(view, command)"},
+    "report": {"report_rows": "(view)", "write_report": "(rows)", "read_report": "(text)"},
 }
 CLASSES = {
     "journal": {"Journal": {
@@ -102,6 +115,18 @@ CLASSES = {
         "count_on": "(self, node, service_born)", "names": "(self)",
     }},
     "scheduler": {"Scheduler": {"__init__": "(self, name, fronts, boot)", "handle": "(self, event)"}},
+    "runs": {"Runs": {
+        "__init__": "(self)", "begin": "(self, slot, born)", "end": "(self, slot)", "end_all": "(self)",
+        "born_of": "(self, slot)", "slots": "(self)",
+    }},
+    "restarts": {"Restarts": {
+        "__init__": "(self)", "begun": "(self, slot, now)", "failed": "(self, slot, now)",
+        "is_due": "(self, slot, now)", "forget": "(self, slot)",
+    }},
+    "worker": {"Worker": {
+        "__init__": "(self, name, fronts, size, zone, feed, boot, running)", "begin": "(self)",
+        "handle": "(self, event)",
+    }},
 }
 CONSTANTS = {
     "sectors": {"SECTOR": 64, "PAYLOAD": 58, "BLANK": (0,) * 64},
@@ -120,6 +145,7 @@ FIELDS = {
     "caller": {"Caller": (("m1", ("f1",)), {"origin": "m1", "number": 0, "front": "f1", "age": 0})},
     "follower": {"Follower": ((("f1",),), {"front": "f1"})},
     "nodes": {"NodeWatch": ((7,), {"wait": 7, "clock": 0})},
+    "worker": {"Worker": (("w1", ("f1",), 9, "", 12, 1, ()), {"life": 0, "clock": 0, "fed_until": 0})},
 }
 # The fields that hold objects of other classes.
 PARTS = {
@@ -129,6 +155,9 @@ PARTS = {
     "follower": {"Follower": ((("f1",),), {"cache": ("cache", "Cache")})},
     "scheduler": {"Scheduler": (("s1", ("f1",), 1), {
         "follower": ("follower", "Follower"), "caller": ("caller", "Caller"), "assumed": ("assumed", "Assumed"),
+    })},
+    "worker": {"Worker": (("w1", ("f1",), 9, "", 12, 1, ()), {
+        "runs": ("runs", "Runs"), "follower": ("follower", "Follower"), "caller": ("caller", "Caller"),
     })},
 }
 

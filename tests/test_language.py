@@ -154,11 +154,13 @@ class TestStatements(unittest.TestCase):
                     self.assertTrue(isinstance(node.right, ast.Constant) and 0 <= node.right.value <= 64, path.name)
 
     def test_patterns(self):
-        allowed = (ast.MatchSequence, ast.MatchValue, ast.MatchAs, ast.MatchSingleton)
+        allowed = (ast.MatchSequence, ast.MatchValue, ast.MatchAs, ast.MatchSingleton, ast.MatchOr)
         for path in files():
             for node in ast.walk(tree_of(path)):
                 if isinstance(node, ast.pattern):
                     self.assertIsInstance(node, allowed, path.name)
+                if isinstance(node, ast.MatchOr):
+                    self.assertTrue(all(isinstance(part, ast.MatchValue) for part in node.patterns), path.name)
                 if isinstance(node, ast.Match):
                     catching = [isinstance(case.pattern, ast.MatchAs) for case in node.cases]
                     self.assertNotIn(True, catching[:-1], path.name)
